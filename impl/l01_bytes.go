@@ -150,10 +150,17 @@ func PutText(t string) string {
 	return joinTexts(PutNum(int64(len(t))), t)
 }
 
-func joinTexts(a string, b string) string {
-	out := make([]byte, len(a)+len(b))
-	copy(out, a)
-	copy(out[len(a):], b)
+// joinTexts puts texts one behind the other, in new memory.
+func joinTexts(texts ...string) string {
+	long := 0
+	for _, t := range texts {
+		long += len(t)
+	}
+	out := make([]byte, long)
+	at := 0
+	for _, t := range texts {
+		at += copy(out[at:], t)
+	}
 	return string(out)
 }
 
