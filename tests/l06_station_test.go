@@ -1094,10 +1094,9 @@ func textsIn(out impl.StationOut) []string {
 	return l
 }
 
-// spoilAll writes over an answer list by list, each of which must not change any that comes behind it.
-func spoilAll(t *testing.T, out impl.StationOut) {
+// spoilNums writes over lists one by one, each of which must not change any that comes behind it.
+func spoilNums(t *testing.T, out any, lists [][]int64) {
 	t.Helper()
-	lists := numLists(out)
 	for i, l := range lists {
 		var kept [][]int64
 		for _, other := range lists[i+1:] {
@@ -1110,6 +1109,12 @@ func spoilAll(t *testing.T, out impl.StationOut) {
 			}
 		}
 	}
+}
+
+// spoilAll writes over all that an answer has in lists.
+func spoilAll(t *testing.T, out impl.StationOut) {
+	t.Helper()
+	spoilNums(t, out, numLists(out))
 	globs, says, texts := out.Station.Globs[:cap(out.Station.Globs)], out.Says, out.Station.Out[:cap(out.Station.Out)]
 	for i := range globs {
 		globs[i] = impl.Glob{Addr: 77}
